@@ -1,0 +1,1 @@
+"""Diesnon: due days for all calendars."""

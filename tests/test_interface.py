@@ -1,0 +1,56 @@
+"""The interface: each name is defined in its module, with its arguments."""
+
+import importlib
+import inspect
+import unittest
+
+FUNCTIONS = {
+    "stretches": {
+        "is_closed_days": ["pairs"], "closed_days": ["pairs"], "is_open": ["closed", "day"],
+        "next_open": ["closed", "day"], "prev_open": ["closed", "day"], "nth_open": ["closed", "day", "n"],
+        "count_open": ["closed", "first", "behind"], "stretch_at": ["closed", "day"],
+        "shut": ["closed", "first", "last"], "free": ["closed", "first", "last"],
+        "cut": ["closed", "first", "last"], "longest": ["closed"], "both": ["first_closed", "second_closed"],
+        "either": ["first_closed", "second_closed"], "inside": ["first_closed", "second_closed"],
+    },
+    "worlds": {
+        "make_world": ["calendars", "days", "flags"], "is_world": ["world"], "calendar_of": ["world", "name"],
+        "day_of": ["world", "name"], "flag_of": ["world", "name"],
+        "set_calendar": ["world", "name", "closed"], "set_day": ["world", "name", "day"],
+        "set_flag": ["world", "name", "flag"], "keeps_rule": ["world", "rule"], "keeps_rules": ["world", "rules"],
+    },
+    "terms": {
+        "is_name": ["text"], "check_term": ["term"], "check_condition": ["condition"],
+        "check_question": ["question"], "size_of": ["node"], "depth_of": ["node"], "names_of": ["node"],
+        "with_days": ["node", "table"],
+    },
+}
+CLASSES = {
+    "errors": {
+        "DiesError": {}, "NotAllowed": {}, "TooLarge": {}, "Never": {}, "BadForm": {"__init__": ["self", "line"]},
+        "Missing": {"__init__": ["self", "name"]},
+    },
+}
+
+
+def arguments(function):
+    return list(inspect.signature(function).parameters)
+
+
+class Interface(unittest.TestCase):
+    def test_functions(self):
+        for module, functions in FUNCTIONS.items():
+            home = importlib.import_module(f"diesnon.{module}")
+            for name, told in functions.items():
+                function = getattr(home, name)
+                self.assertEqual(function.__module__, f"diesnon.{module}")
+                self.assertEqual(arguments(function), told)
+
+    def test_classes(self):
+        for module, classes in CLASSES.items():
+            home = importlib.import_module(f"diesnon.{module}")
+            for name, methods in classes.items():
+                kind = getattr(home, name)
+                self.assertEqual(kind.__module__, f"diesnon.{module}")
+                for method, told in methods.items():
+                    self.assertEqual(arguments(vars(kind)[method]), told)
