@@ -28,6 +28,32 @@ EXAMPLES = {
 >>> keeps_rule(world, ("court", 0, "", (0, 5, ((5, 5),)))), keeps_rule(world, ("court", 0, "", (0, 9, ())))
 (True, False)
 """,
+    "reader": """
+>>> from diesnon.reader import read_condition, read_term
+>>> read_term("next court(served + 14) - 1")
+('plus', ('next', 'court', ('plus', ('day', 'served'), 14)), -1)
+>>> read_condition("not a < @-3 or ?late and yes")
+('or', ('not', ('le', ('plus', ('day', 'a'), 1), ('at', -3))), ('and', ('flag', 'late'), ('yes',)))
+""",
+    "rings": """
+>>> from diesnon.rings import find_ring, is_ring, satisfies
+>>> is_ring(find_ring(3, [(1, 0, 5), (0, 1, -6), (2, 1, 4)])), find_ring(2, [(1, 0, 5), (0, 1, -5)])
+(True, None)
+>>> is_ring(((4, 4, -1),)), is_ring(((1, 0, 5), (0, 1, -5)))
+(True, False)
+>>> satisfies((0, 5, 7), [(1, 0, 5), (2, 1, 4)])
+True
+""",
+    "bounds": """
+>>> from diesnon.bounds import Bounds
+>>> bounds = Bounds(3)
+>>> bounds.add(1, 0, 5), bounds.add(2, 1, 4), bounds.add(0, 2, -10), bounds.add(0, 2, -9)
+(True, True, False, True)
+>>> bounds.bound(2, 0), bounds.bound(0, 1), bounds.literals()
+(9, -5, [(1, 0, 5), (2, 1, 4), (0, 2, -9)])
+>>> bounds.any_values()
+(0, 5, 9)
+""",
 }
 
 

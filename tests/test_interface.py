@@ -24,11 +24,31 @@ FUNCTIONS = {
         "check_question": ["question"], "size_of": ["node"], "depth_of": ["node"], "names_of": ["node"],
         "with_days": ["node", "table"],
     },
+    "writer": {"term_text": ["term"], "condition_text": ["condition"], "question_text": ["question"]},
+    "reader": {
+        "read_term": ["text"], "read_condition": ["text"], "read_case_term": ["text"],
+        "read_case_condition": ["text"], "read_question": ["text"],
+    },
+    "meaning": {
+        "value": ["world", "term"], "holds": ["world", "condition"], "keeps": ["world", "question"],
+        "answers": ["world", "question"],
+    },
+    "rings": {
+        "check_points": ["n"], "check_literals": ["n", "literals"], "satisfies": ["values", "literals"],
+        "is_ring": ["ring"], "find_ring": ["n", "literals"],
+    },
 }
 CLASSES = {
     "errors": {
         "DiesError": {}, "NotAllowed": {}, "TooLarge": {}, "Never": {}, "BadForm": {"__init__": ["self", "line"]},
         "Missing": {"__init__": ["self", "name"]},
+    },
+    "bounds": {
+        "Bounds": {
+            "__init__": ["self", "n"], "size": ["self"], "add": ["self", "a", "b", "c"], "literals": ["self"],
+            "bound": ["self", "a", "b"], "any_values": ["self"], "values_at": ["self", "a", "b"],
+            "values_beyond": ["self", "a", "b", "least"], "copy": ["self"],
+        },
     },
 }
 

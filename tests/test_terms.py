@@ -182,7 +182,7 @@ class Questions(unittest.TestCase):
                      ("bank", 0, "", (0, 5, ((5, 6),))), ("bank", 0, "", (0, 5, ((-1, 2),))),
                      ("bank", 0, "", (0, 9, ((1, 2), (3, 4)))), ("bank", 0, "", (0, 9, ((4, 3),))),
                      ("bank", 0, "", (0, 9, ((5, 6), (1, 2)))), ("bank", 0, "", (False, 9, ())),
-                     ("bank", 0, "", (9, 0, ((5, 6),))), ("bank", 0, "", (9, 0, ()))):
+                     ("bank", 0, "", (9, 0, ((5, 6),))), ("bank", 0, "", (9, 0, ())), ("bank", 0, "", (0, 9))):
             self.refused(((first, rule), (), YES))
 
     def test_within_needs_an_earlier_rule(self):
