@@ -12,6 +12,8 @@ from diesnon.trail import OPEN, Refutation, Trail
 # Papers of at most this weight may stand in several places of a paper. If others did, papers
 # could become far heavier than the search for them was long.
 LIGHT = 12
+# What a step costs besides the looks at all clauses, as many looks as that.
+SETUP = 20
 MAX_BUMP = 1000000000000
 
 
@@ -37,6 +39,7 @@ class Hunt(Trail):
         super().__init__(problem)
         self.scores = [0] * len(problem.rows)
         self.bump = 1
+        self.paper = self.start()
 
     def start(self):
         """Assumes what has no choice at all; returns a paper if that cannot be."""
@@ -147,11 +150,13 @@ class Hunt(Trail):
         self.begin_level(k)
         self.assume(min(gaps)[1], k, None)
 
-    def run(self):
-        """Returns ("values", values) or ("paper", paper)."""
-        paper = self.start()
-        while paper is None:
+    def run(self, limit):
+        """("values", values) or ("paper", paper), None after about so many looks at clauses."""
+        if self.paper is not None:
+            return "paper", self.paper
+        while limit > 0:
             conflict = self.next_conflict()
+            limit -= len(self.left) + SETUP
             if conflict is not None:
                 at = self.last_chosen(conflict)
                 if at is None:
@@ -160,6 +165,6 @@ class Hunt(Trail):
             else:
                 k = self.unsolved()
                 if k is None:
-                    return "values", self.values_now()
+                    return "values", self.problem.spread(self.guess)
                 self.choose(k)
-        return "paper", paper
+        return None

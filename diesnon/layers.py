@@ -57,7 +57,7 @@ def stretches_of(made, name):
 
 
 def anchor_points(made, table, name):
-    """The anchors of the stretches of a calendar, as points if those of known stretches."""
+    """The anchors of the stretches of a calendar, as points and not as their indexes."""
     found = {made[anchor]: True for _, _, anchor in stretches_of(made, name)}
     for first, _ in known_stretches(table[name]):
         found[("plus", 0, first)] = True
@@ -65,7 +65,7 @@ def anchor_points(made, table, name):
 
 
 def run_anchors(made, table, name):
-    """The anchors of all stretches of a calendar, the inherited ones too, each once."""
+    """The anchors of all stretches of a calendar, the inherited ones too, each once, as points."""
     found = {}
     for layer in [name, *above(table, name)]:
         for anchor in anchor_points(made, table, layer):

@@ -15,7 +15,7 @@ class Net:
         self.saved = []
 
     def tighten(self, u, v, w, edge):
-        """Adds a literal that forms no ring; returns the list of the pairs with new bounds."""
+        """Adds a literal that forms no ring; returns the list of the pairs with new sums, and the old sums."""
         endless = self.endless
         here, onward = self.sums[u], self.sums[v]
         ahead = [(y, w + step) for y, step in enumerate(onward) if step < endless and w + step < here[y]]
@@ -27,12 +27,20 @@ class Net:
                 hops = self.hops[x]
                 hop = edge if x == u else hops[u]
                 for y, step in ahead:
-                    if back + step < row[y]:
-                        self.saved.append((x, y, row[y], hops[y]))
+                    old = row[y]
+                    if back + step < old:
+                        self.saved.append((x, y, old, hops[y]))
                         row[y] = back + step
                         hops[y] = hop
-                        pairs.append((x, y))
+                        pairs.append((x, y, old))
         return pairs
+
+    def lowered(self, guess, head, most):
+        """Values that keep all bounds, as the guess does, and that of a point is at most this."""
+        if guess[head] <= most:
+            return guess
+        ways = [row[head] for row in self.sums]
+        return [old if way == self.endless else min(old, way + most) for old, way in zip(guess, ways)]
 
     def mark(self):
         """What `back_to` takes to come back to the bounds of now."""

@@ -1,9 +1,13 @@
 """Solves problems, by values or by a paper that there are none."""
 
 from diesnon.hunt import Hunt
+from diesnon.learner import Learner
 from diesnon.literals import all_hold
 from diesnon.papers import MAX_DEPTH, check_clauses, depth_of
 from diesnon.problem import Problem
+
+# After so many looks at clauses a problem is searched in two ways, in turns that become longer.
+PATIENCE = 50000
 
 
 def solves(n, clauses, values):
@@ -41,9 +45,23 @@ def without_repeats(paper):
     return made[0]
 
 
+def searched(problem):
+    """What the search tells that ends first: one tells papers, too, and the other one learns more."""
+    hunt = Hunt(problem)
+    told = hunt.run(PATIENCE)
+    if told is None:
+        learner = Learner(problem)
+    limit = PATIENCE
+    while told is None:
+        limit *= 2
+        values = learner.run(limit)
+        told = hunt.run(limit) if values is None else ("values", values)
+    return told
+
+
 def solved(n, clauses):
     """The same as `solve` for a problem that is known to be one."""
-    word, told = Hunt(Problem(n, clauses)).run()
+    word, told = searched(Problem(n, clauses))
     if word == "paper" and depth_of(told) > MAX_DEPTH:
         return "paper", without_repeats(told)
     return word, told

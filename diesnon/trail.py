@@ -57,7 +57,7 @@ class Trail:
     def __init__(self, problem):
         self.problem = problem
         self.net = Net(problem.many, problem.beyond())
-        self.watched = problem.watchers()
+        self.watches = problem.make_watches()
         self.guess = [0] * problem.many
         self.states = [OPEN] * len(problem.originals)
         self.facts = {}
@@ -138,26 +138,25 @@ class Trail:
 
     def assume(self, lit, home, others):
         """Adds an open literal as an edge, and notes what follows from it."""
-        head, tail, bound = self.problem.heads[lit], self.problem.tails[lit], self.problem.bounds[lit]
+        head, tail, bound = self.problem.triple(lit)
         pairs = self.net.tighten(head, tail, bound, len(self.edges))
         self.edges.append(Edge(lit, len(self.levels), home, others))
-        self.lower(head, self.guess[tail] + bound)
-        sums, bounds, states = self.net.sums, self.problem.bounds, self.states
-        for x, y in pairs:
-            least = sums[x][y]
-            for other, straight in self.watched[x][y]:
-                if states[other] == OPEN:
-                    if straight and least <= bounds[other]:
-                        self.hold(other)
-                    elif not straight and least + bounds[other] < 0:
-                        self.refute(other)
+        self.guess = self.net.lowered(self.guess, head, self.guess[tail] + bound)
+        for x, y, old in pairs:
+            self.note_sum(x, y, old)
 
-    def lower(self, head, most):
-        """Lowers the guess so that its value of a point is at most this."""
-        if self.guess[head] > most:
-            endless = self.net.endless
-            ways = [row[head] for row in self.net.sums]
-            self.guess = [old if way == endless else min(old, way + most) for old, way in zip(self.guess, ways)]
+    def note_sum(self, x, y, old):
+        """Notes which open literals are held or refuted as a sum is less than the old one."""
+        least = self.net.sums[x][y]
+        straight, crossing = self.watches[x][y], self.watches[y][x]
+        if straight is not None:
+            for lit in straight.between(least, old):
+                if self.states[lit] == OPEN:
+                    self.hold(lit)
+        if crossing is not None:
+            for lit in crossing.between(-old, -least):
+                if self.states[lit] == OPEN:
+                    self.refute(lit)
 
     def is_in_ring(self, lit):
         """True if the literal forms a ring with edges."""
@@ -188,9 +187,3 @@ class Trail:
         if lit in self.tied[k]:
             return self.tied[k][lit]
         return self.facts[lit]
-
-    def values_now(self):
-        """The values of all points of the problem, that of the point 0 is 0."""
-        offsets = self.problem.ties.offsets
-        found = [self.guess[place] + offset for place, offset in zip(self.problem.places, offsets)]
-        return tuple([number - found[0] for number in found])
