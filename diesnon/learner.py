@@ -31,7 +31,7 @@ class Row:
     """The literals of a clause, of which the first two are watched, and how often it mattered."""
 
     def __init__(self, literals, learned):
-        self.literals = literals
+        self.parts = literals
         self.learned = learned
         self.score = 0
 
@@ -90,16 +90,16 @@ class Learner:
         before = -1
         while before < len(self.steps) and not self.hopeless:
             before = len(self.steps)
-            unsettled = [row for row in self.rows if not any([self.is_held(literal) for literal in row.literals])]
+            unsettled = [row for row in self.rows if not any([self.is_held(literal) for literal in row.parts])]
             self.rows = []
             for row in unsettled:
-                row.literals = [literal for literal in row.literals if not self.is_refuted(literal)]
-                if len(row.literals) > 1:
+                row.parts = [literal for literal in row.parts if not self.is_refuted(literal)]
+                if len(row.parts) > 1:
                     self.rows.append(row)
-                elif not row.literals:
+                elif not row.parts:
                     self.hopeless = True
-                elif not self.is_held(row.literals[0]):
-                    self.take_step(row.literals[0], row, [])
+                elif not self.is_held(row.parts[0]):
+                    self.take_step(row.parts[0], row, [])
         self.changed = []
         self.watching = [[[] for _ in range(self.problem.many)] for _ in range(self.problem.many)]
         for row in self.rows:
@@ -107,7 +107,7 @@ class Learner:
 
     def watch(self, row):
         """Watches the first two literals of a clause."""
-        for head, tail, _ in row.literals[:2]:
+        for head, tail, _ in row.parts[:2]:
             self.watching[tail][head].append(row)
 
     def causes_of(self, literals):
@@ -146,7 +146,7 @@ class Learner:
 
     def is_followed(self, row, x, y):
         """Looks at a clause that watched this pair; returns False if all its literals are refuted."""
-        literals = row.literals
+        literals = row.parts
         if self.is_gone(literals[0], x, y):
             literals[0], literals[1] = literals[1], literals[0]
         if not self.is_gone(literals[1], x, y) or self.is_held(literals[0]):
@@ -173,7 +173,7 @@ class Learner:
         None if it needs none.
         """
         self.raise_score(row)
-        needs = {at: True for at in self.causes_of(row.literals)}
+        needs = {at: True for at in self.causes_of(row.parts)}
         if not needs:
             return None
         last = max(needs)
@@ -238,14 +238,14 @@ class Learner:
     def unsolved(self):
         """The clause that mattered most of those that the guess does not satisfy, None if there is none."""
         guess = self.guess
-        found = [row for row in self.rows if is_off(row.literals, guess)]
+        found = [row for row in self.rows if is_off(row.parts, guess)]
         return max(found, key=lambda row: row.score) if found else None
 
     def choose(self, row):
         """Chooses the literal of a clause from which the guess is least far away."""
         guess = self.guess
         gaps = [(guess[head] - guess[tail] - bound, (head, tail, bound))
-                for head, tail, bound in row.literals if not self.is_refuted((head, tail, bound))]
+                for head, tail, bound in row.parts if not self.is_refuted((head, tail, bound))]
         self.levels.append((len(self.steps), self.net.mark()))
         self.take_step(min(gaps)[1], row, None)
 

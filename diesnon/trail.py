@@ -49,7 +49,7 @@ class Level:
 class Trail:
     """The edges, and for each literal whether it is held by them, refuted, or neither.
 
-    `facts` are refutations of literals, used in all clauses, `ties` those that are used in the
+    `facts` are refutations of literals, used in all clauses, `tied` those that are used in the
     clause `home` alone. `held` and `left` tell of each clause how many of its literals are held,
     and how many are not refuted. `guess` are values that satisfy the edges.
     """
