@@ -54,6 +54,90 @@ True
 >>> bounds.any_values()
 (0, 5, 9)
 """,
+    "points": """
+>>> from diesnon.points import points, values_of
+>>> question = ((("court", 0, "", ()),), (), ("le", ("next", "court", ("day", "x")), ("at", 9)))
+>>> sorted(points(question))
+[('day', 'x'), ('next', 'court', 1), ('origin',), ('plus', 0, 9)]
+>>> sorted(values_of(points(question), ((("court", ((5, 7),)),), (("x", 6),), ())))
+[0, 6, 8, 9]
+""",
+    "clauses": """
+>>> from diesnon.clauses import clauses
+>>> from diesnon.literals import all_hold, denial
+>>> denial((1, 2, 5))
+(2, 1, -6)
+>>> question = ((("court", 0, "", ()),), (), ("yes",))
+>>> clauses(question)
+(((0, 0, -1),),)
+>>> all_hold(clauses(question), (0,))
+False
+""",
+    "papers": """
+>>> from diesnon.papers import check_paper, trimmed, used_clauses, weight
+>>> clauses = [((1, 0, -1), (1, 0, -2)), ((0, 1, 0),), ((1, 0, 7),)]
+>>> paper = ("cases", 0, (("ring", ((1, 0, -1), (0, 1, 0))), ("ring", ((1, 0, -2), (0, 1, 0)))))
+>>> check_paper(2, clauses, paper), weight(paper), used_clauses(2, clauses, paper)
+(True, 3, [0, 1])
+>>> check_paper(2, clauses, ("ring", ((1, 0, -1), (0, 1, 0)))), trimmed(2, clauses, paper) == paper
+(False, True)
+""",
+    "search": """
+>>> from diesnon.search import solve
+>>> solve(2, [((1, 0, -3), (0, 1, -3)), ((1, 0, 5),), ((0, 1, -5),)])
+('values', (0, 5))
+>>> solve(1, [()])
+('paper', ('cases', 0, ()))
+""",
+    "realize": """
+>>> from diesnon.realize import realize
+>>> realize(((("court", 0, "", ()),), (), ("not", ("yes",))), [4])
+((('court', ()),), (), ())
+""",
+    "decide": """
+>>> from diesnon.decide import decide, verdict
+>>> x = ("day", "x")
+>>> rules = (("court", 2, "", ()),)
+>>> verdict((rules, (), ("le", x, ("next", "court", x))))
+'always'
+>>> verdict((rules, (), ("le", ("next", "court", x), ("plus", x, 1))))
+'open'
+>>> verdict((rules, (), ("le", ("next", "court", x), ("plus", x, 2))))
+'always'
+>>> decide((rules, (), ("le", ("next", "court", x), ("plus", x, 2))))[0]
+'paper'
+""",
+    "extremes": """
+>>> from diesnon.extremes import greatest, span
+>>> x = ("day", "x")
+>>> rules = (("court", 2, "", ()),)
+>>> greatest(rules, (), ("next", "court", ("plus", x, 3)), x)[:2]
+('most', 5)
+>>> span(rules, (), ("next", "court", ("plus", x, 3)), x), span(rules, (), x, ("day", "y"))
+((3, 5), (None, None))
+>>> greatest((("court", 0, "", ()),), (), ("next", "court", x), x)
+('endless',)
+""",
+    "families": """
+>>> from diesnon.families import critical_run, orders, tolerance
+>>> x, y = ("day", "x"), ("day", "y")
+>>> question = ((("court", 0, "", ()),), (), ("le", ("next", "court", x), ("plus", x, 4)))
+>>> critical_run(question, "court")[:2]
+('from', 5)
+>>> orders((), (("le", x, y),), x, y)
+('before', 'same')
+>>> tolerance((("court", 3, "", ()),), (("le", x, y),), 0, ("le", ("next", "court", x), ("plus", y, 10)))[:2]
+('most', 7)
+""",
+    "cores": """
+>>> from diesnon.cores import breaking_sets, least_sets, meeting_sets
+>>> a, b, c = ("day", "a"), ("day", "b"), ("day", "c")
+>>> question = ((), (("le", a, b), ("le", b, c), ("le", a, c), ("le", c, b)), ("le", a, c))
+>>> least_sets(question), breaking_sets(question)
+(((2,), (0, 1)), ((0, 2), (1, 2)))
+>>> meeting_sets(((2,), (0, 1)))
+((0, 2), (1, 2))
+""",
 }
 
 

@@ -37,6 +37,49 @@ FUNCTIONS = {
         "check_points": ["n"], "check_literals": ["n", "literals"], "satisfies": ["values", "literals"],
         "is_ring": ["ring"], "find_ring": ["n", "literals"],
     },
+    "points": {
+        "all_points": ["rules", "conditions", "terms"], "points": ["question"], "point_of": ["made", "term"],
+        "literal_for": ["made", "condition"], "values_of": ["made", "world"],
+    },
+    "literals": {
+        "denial": ["literal"], "literal_holds": ["literal", "values"], "clause_holds": ["clause", "values"],
+        "all_hold": ["rows", "values"],
+    },
+    "clauses": {"all_clauses": ["rules", "conditions", "terms"], "clauses": ["question"]},
+    "papers": {
+        "check_clauses": ["n", "clauses"], "check_paper": ["n", "clauses", "paper"], "depth_of": ["paper"],
+        "weight": ["paper"], "rings_of": ["paper"], "used_clauses": ["n", "clauses", "paper"],
+        "trimmed": ["n", "clauses", "paper"],
+    },
+    "search": {"solves": ["n", "clauses", "values"], "solve": ["n", "clauses"]},
+    "realize": {"world_of_values": ["rules", "made", "values"], "realize": ["question", "values"]},
+    "decide": {
+        "decide": ["question"], "check": ["question", "paper"], "keeping": ["question"], "verdict": ["question"],
+        "decide_all": ["rules", "assumptions", "claims"], "mirror": ["question"],
+    },
+    "extremes": {
+        "greatest": ["rules", "assumptions", "t", "u"], "least": ["rules", "assumptions", "t", "u"],
+        "span": ["rules", "assumptions", "t", "u"],
+        "check_most": ["rules", "assumptions", "t", "u", "v", "paper"], "table": ["rules", "assumptions", "terms"],
+    },
+    "families": {
+        "farther": ["rules", "assumptions", "t", "u", "n"], "orders": ["rules", "assumptions", "t", "u"],
+        "tolerance": ["rules", "assumptions", "k", "claim"], "with_run": ["question", "name", "run"],
+        "critical_run": ["question", "name"],
+    },
+    "cores": {
+        "suffices": ["question", "chosen"], "least_sets": ["question"], "breaking_sets": ["question"],
+        "meeting_sets": ["sets"],
+    },
+}
+CONSTANTS = {
+    "terms": {
+        "MAX_NODES": 400, "MAX_DEPTH": 40, "MAX_NUMBER": 1000000, "MAX_COUNT": 6, "MAX_RULES": 6, "MAX_ASSUMPTIONS": 30,
+    },
+    "rings": {"MAX_POINTS": 80},
+    "points": {"MAX_POINTS": 80},
+    "papers": {"MAX_CLAUSES": 8000, "MAX_DEPTH": 8000},
+    "cores": {"MAX_CHOICES": 6},
 }
 CLASSES = {
     "errors": {
@@ -74,3 +117,9 @@ class Interface(unittest.TestCase):
                 self.assertEqual(kind.__module__, f"diesnon.{module}")
                 for method, told in methods.items():
                     self.assertEqual(arguments(vars(kind)[method]), told)
+
+    def test_constants(self):
+        for module, constants in CONSTANTS.items():
+            home = importlib.import_module(f"diesnon.{module}")
+            for name, told in constants.items():
+                self.assertEqual(getattr(home, name), told)
