@@ -1,5 +1,6 @@
 """Small questions and worlds that keep their rules, made by a seeded random source."""
 
+from diesnon.clauses import all_clauses
 from diesnon.stretches import both, free, shut
 from diesnon.terms import names_of
 from diesnon.worlds import make_world
@@ -100,3 +101,27 @@ def chain_of_days(count):
     for _ in range(count - 2):
         term = ("plus", term, 1)
     return term
+
+
+def many_clauses(count):
+    """Rules whose picture with the terms of `many_terms` has many clauses, more with each count."""
+    return (("c", 0, "", (0, 4 * count, tuple((4 * k, 4 * k) for k in range(count)))),)
+
+
+def many_terms():
+    term = ("day", "x")
+    for _ in range(26):
+        term = ("next", "c", ("plus", term, 1))
+    return term, ("day", "x")
+
+
+def conditions_for(rules, t, u, count):
+    """Conditions with which the picture has so many clauses: each brings just its own one."""
+    points = [t]
+    while points[-1] != ("day", "x"):
+        points.append(points[-1][2] if points[-1][0] == "next" else points[-1][1])
+    pairs = [("le", early, late) for k, late in enumerate(points) for early in points[k + 1:]]
+    conditions = []
+    while len(all_clauses(rules, conditions, [t, u])) < count:
+        conditions.append(pairs[len(conditions)])
+    return tuple(conditions)

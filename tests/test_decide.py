@@ -3,7 +3,7 @@
 import random
 import unittest
 
-from diesnon.clauses import clauses
+from diesnon.clauses import all_clauses, clauses
 from diesnon.decide import check, decide, decide_all, keeping, mirror, verdict
 from diesnon.errors import Never, TooLarge
 from diesnon.meaning import answers, holds, keeps
@@ -11,7 +11,9 @@ from diesnon.papers import check_paper
 from diesnon.points import points
 from diesnon.worlds import is_world, keeps_rules, make_world
 from tests.allworlds import BOUNDED, bounded_worlds, near_condition
-from tests.pictures import chain_of_days, names_in, nodes_of, small_question, some_world_for
+from tests.pictures import (
+    chain_of_days, conditions_for, many_clauses, many_terms, names_in, nodes_of, small_question, some_world_for,
+)
 from tests.samples import spoilt_nodes
 
 X, Y, Z = ("day", "x"), ("day", "y"), ("day", "z")
@@ -24,11 +26,6 @@ def both_ways(t, u):
 
 def follows(c, d):
     return ("or", ("not", c), d)
-
-
-def wide_rules(count):
-    """A rule with as many known closed days, one by one, so that pictures have many clauses."""
-    return (("c", 0, "", (0, 4 * count, tuple((4 * k, 4 * k) for k in range(count)))),)
 
 
 class Case(unittest.TestCase):
@@ -150,19 +147,23 @@ class Limits(Case):
                 call(question)
 
     def test_clauses(self):
-        term = X
-        for _ in range(26):
-            term = ("next", "c", ("plus", term, 1))
-        claim = ("le", term, X)
-        count = 100
-        while len(clauses((wide_rules(count), (), claim))) <= 8000:
-            count += 1
-        self.assertGreater(count, 101)
-        self.assertEqual(self.check_decided((wide_rules(count - 1), (), claim)), "world")
-        for call in (decide, verdict, keeping, lambda asked: check(asked, ()),
-                     lambda asked: decide_all(asked[0], asked[1], [asked[2]])):
-            with self.assertRaises(TooLarge):
-                call((wide_rules(count), (), claim))
+        """8000 clauses are allowed, and one more is not."""
+        t, u = many_terms()
+        claim = ("not", ("le", t, ("plus", u, -1)))
+        rules = many_clauses(139)
+        for count in (8000, 8001):
+            more = count - len(clauses((rules, (), claim)))
+            assumptions = conditions_for(rules, t, u, len(all_clauses(rules, (), [t, u])) + more)
+            question = (rules, assumptions, claim)
+            self.assertEqual(len(clauses(question)), count)
+            if count == 8000:
+                self.assertEqual(self.check_decided(question), "paper")
+                self.assertIs(check(question, decide(question)[1]), True)
+                continue
+            for call in (decide, verdict, keeping, lambda asked: check(asked, ()),
+                         lambda asked: decide_all(asked[0], asked[1], [asked[2]])):
+                with self.assertRaises(TooLarge):
+                    call(question)
 
 
 class Check(Case):

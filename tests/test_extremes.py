@@ -13,25 +13,16 @@ from diesnon.points import all_points, point_of
 from diesnon.search import solve
 from diesnon.worlds import is_world
 from tests.allworlds import BOUNDED, bounded_worlds, near_condition, near_term
-from tests.pictures import chain_of_days, names_in, nodes_of, small_question, small_term, some_world_for
+from tests.pictures import (
+    chain_of_days, conditions_for, many_clauses, many_terms, names_in, nodes_of, small_question, small_term,
+    some_world_for,
+)
 from tests.samples import spoilt_nodes
 
 X, Y, Z = ("day", "x"), ("day", "y"), ("day", "z")
 YES, NO = ("yes",), ("not", ("yes",))
 RULES = (("a", 2, "", ()), ("b", 5, "a", ()))
 BIG = 10 ** 30
-
-
-def many_clauses(count):
-    """Rules whose picture with the terms of `many_terms` has many clauses, more with each count."""
-    return (("c", 0, "", (0, 4 * count, tuple((4 * k, 4 * k) for k in range(count)))),)
-
-
-def many_terms():
-    term = X
-    for _ in range(26):
-        term = ("next", "c", ("plus", term, 1))
-    return term, X
 
 
 def difference(world, t, u):
@@ -86,6 +77,9 @@ class Told(Case):
         for rules, assumptions, t, u, ends in (
             (RULES, (), X, X, (0, 0)), (RULES, (), ("plus", X, -7), X, (-7, -7)), (RULES, (), X, Y, (None, None)),
             (RULES, (("le", X, Y),), X, Y, (None, 0)), (RULES, (("le", X, Y),), Y, X, (0, None)),
+            ((), (("le", X, ("plus", Y, 5)), ("le", Z, Y)), X, Y, (None, 5)),
+            ((), (("le", X, ("plus", Y, 5)), ("le", Y, Z), ("le", Z, ("plus", Y, 3))), X, Y, (None, 5)),
+            ((), (("le", X, ("plus", Y, BIG)), ("le", Z, ("plus", Y, -BIG)), ("le", ("at", 0), Z)), X, Y, (None, BIG)),
             (RULES, (), ("next", "a", X), X, (0, 2)), (RULES, (), ("prev", "a", X), X, (-2, 0)),
             (RULES, (), ("next", "b", X), X, (0, 5)), (RULES, (), ("next", "b", X), ("next", "a", X), (0, 5)),
             (RULES, (), ("next", "b", X), ("prev", "b", X), (0, 6)),
@@ -260,15 +254,3 @@ class Limits(Case):
         limit = conditions_for(rules, t, u, 8000)
         self.assertEqual(len(all_clauses(rules, limit, [t, u])), 8000)
         self.refused(rules, limit, t, u)
-
-
-def conditions_for(rules, t, u, count):
-    """Conditions with which the picture has so many clauses: each brings just its own one."""
-    points = [t]
-    while points[-1] != X:
-        points.append(points[-1][2] if points[-1][0] == "next" else points[-1][1])
-    pairs = [("le", early, late) for k, late in enumerate(points) for early in points[k + 1:]]
-    conditions = []
-    while len(all_clauses(rules, conditions, [t, u])) < count:
-        conditions.append(pairs[len(conditions)])
-    return tuple(conditions)

@@ -9,8 +9,9 @@ from diesnon.errors import Missing, Never, NotAllowed, TooLarge
 from diesnon.extremes import span
 from diesnon.families import critical_run, farther, orders, tolerance, with_run
 from diesnon.meaning import answers, keeps, value
-from tests.pictures import chain_of_days, names_in, small_question, small_term
-from tests.test_extremes import conditions_for, many_clauses, many_terms
+from tests.pictures import (
+    chain_of_days, conditions_for, many_clauses, many_terms, names_in, small_question, small_term,
+)
 
 X, Y, Z = ("day", "x"), ("day", "y"), ("day", "z")
 YES, NO = ("yes",), ("not", ("yes",))
@@ -206,6 +207,12 @@ class Runs(Case):
         ):
             self.assertEqual(self.check((rules, (), claim), rule), told, claim)
         alone = (("a", 2, "", ()),)
+        near, far = ("le", step, ("plus", X, 50)), ("le", ("nth", "a", Y, 3), ("plus", Y, BIG))
+        for claim in (("and", near, far), ("and", far, near)):
+            self.assertEqual(self.check((alone, (), claim), "a"), 51)
+        near = ("le", ("nth", "a", X, 3), ("plus", X, 100))
+        for claim in (("and", near, far), ("and", far, near)):
+            self.assertEqual(self.check((alone, (), claim), "a"), 33)
         for claim, told in ((("le", step, ("plus", X, 10 ** 6)), 10 ** 6 + 1), (("le", step, ("plus", X, BIG)), BIG + 1),
                             (("le", ("nth", "a", X, 3), ("plus", X, BIG)), BIG // 3),
                             (("or", ("le", step, ("plus", X, 50)), ("le", ("nth", "a", Y, 2), ("plus", Y, BIG))), BIG // 2)):
