@@ -103,6 +103,21 @@ class Small(Case):
         self.assertGreater(min(words.values()), 100)
 
 
+    def test_learner_begins_anew(self):
+        """The search that learns, for itself, on problems with so many dead ends that it begins anew."""
+        for seed in range(4):
+            clauses = planted_clauses(random.Random(seed), 20, 300, 20, (3,), 5)
+            learner = Learner(Problem(20, clauses))
+            values = learner.run(10 ** 9)
+            self.assertIs(solves(20, clauses, values), True)
+        for lengths, end in (((2, 1, 3, 1, 1, 2), 9), ((2, 1, 3, 1, 1, 2), 10), ((5, 1, 2, 2, 4), 13)):
+            n, clauses = jobs(lengths, end)
+            learner = Learner(Problem(n, clauses))
+            values = learner.run(10 ** 9)
+            self.assertIs(learner.hopeless, end < sum(lengths))
+            self.assertIs(values is None, end < sum(lengths))
+
+
 class Large(Case):
     def test_planted(self):
         dice = random.Random(63)
