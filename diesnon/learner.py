@@ -6,6 +6,7 @@ literal here is a triple of a head, a tail and a bound, as of `Problem`.
 
 from diesnon.literals import denial
 from diesnon.net import Net
+from diesnon.walk import is_off
 
 ROUND = 50
 MAX_LEARNED = 1000
@@ -34,14 +35,6 @@ class Row:
         self.parts = literals
         self.learned = learned
         self.score = 0
-
-
-def is_off(literals, guess):
-    """True if the guess satisfies none of the literals."""
-    for head, tail, bound in literals:
-        if guess[head] - guess[tail] <= bound:
-            return False
-    return True
 
 
 class Learner:

@@ -5,8 +5,9 @@ from diesnon.learner import Learner
 from diesnon.literals import all_hold
 from diesnon.papers import MAX_DEPTH, check_clauses, depth_of
 from diesnon.problem import Problem
+from diesnon.walk import Walk
 
-# After so many looks at clauses a problem is searched in two ways, in turns that become longer.
+# After so many looks at clauses a problem is searched in three ways, in turns that become longer.
 PATIENCE = 50000
 
 
@@ -46,16 +47,19 @@ def without_repeats(paper):
 
 
 def searched(problem):
-    """What the search tells that ends first: one tells papers, too, and the other one learns more."""
+    """What the search tells that ends first: one tells papers, too, and two only find values."""
     hunt = Hunt(problem)
-    told = hunt.run(PATIENCE)
-    if told is None:
-        learner = Learner(problem)
     limit = PATIENCE
+    told = hunt.run(limit)
+    if told is None:
+        others = [Walk(problem, hunt.guess), Learner(problem)]
     while told is None:
         limit *= 2
-        values = learner.run(limit)
-        told = hunt.run(limit) if values is None else ("values", values)
+        for other in others:
+            values = other.run(limit)
+            if values is not None:
+                return "values", values
+        told = hunt.run(limit)
     return told
 
 

@@ -9,6 +9,7 @@ from diesnon.learner import Learner
 from diesnon.papers import check_paper, depth_of, used_clauses, weight
 from diesnon.problem import Problem
 from diesnon.search import solve, solves, without_repeats
+from diesnon.walk import Walk
 from tests.problems import (
     deep_paper, has_solution, jobs, planted_clauses, ring_clauses, satisfied, some_clauses, staircase,
 )
@@ -80,8 +81,8 @@ class Small(Case):
             words[word] += 1
         self.assertGreater(min(words.values()), 150)
 
-    def test_both_ways(self):
-        """The two searches behind `solve` tell the same, each for itself and in small steps."""
+    def test_hunt_and_learner(self):
+        """Two of the searches behind `solve` tell the same, each for itself and in small steps."""
         dice = random.Random(62)
         words = {"values": 0, "paper": 0}
         for _ in range(400):
@@ -117,6 +118,31 @@ class Small(Case):
             self.assertIs(learner.hopeless, end < sum(lengths))
             self.assertIs(values is None, end < sum(lengths))
 
+    def test_walk(self):
+        """The search that only finds values, for itself and in turns."""
+        dice = random.Random(68)
+        found = 0
+        for _ in range(100):
+            n = dice.randint(1, 6)
+            clauses = some_clauses(dice, n, dice.randint(0, 20), 4, (1, 2, 3, 3))
+            problem = Problem(n, clauses)
+            walk = Walk(problem, [dice.randint(-5, 5) for _ in range(problem.many)])
+            values = walk.run(20000)
+            if solve(n, clauses)[0] == "paper":
+                self.assertIsNone(values)
+            elif values is not None:
+                found += 1
+                self.assertIs(solves(n, clauses, values), True)
+        self.assertGreater(found, 40)
+        for n, count, length in ((20, 300, 3), (40, 300, 2), (60, 500, 2), (40, 600, 3)):
+            clauses = planted_clauses(random.Random(69), n, count, 20, (length,), 5)
+            walk, values = Walk(Problem(n, clauses), [0] * n), None
+            while values is None:
+                values = walk.run(dice.choice((1, 100, 10000)))
+            self.assertIs(solves(n, clauses, values), True)
+        for clauses in ([()], [((0, 0, -1), (1, 1, -5))], [((1, 0, -1),), ((0, 1, -1),)]):
+            self.assertIsNone(Walk(Problem(2, clauses), [0, 0]).run(500))
+
 
 class Large(Case):
     def test_planted(self):
@@ -151,12 +177,13 @@ class Large(Case):
                 self.assertEqual(self.check(n + 20, moved + clauses), word)
 
     def test_hard_ones(self):
-        """Problems with many dead ends, so that `solve` searches in both ways."""
+        """Problems with many dead ends, so that `solve` searches in all its ways."""
         dice = random.Random(66)
         words = [self.check(20, some_clauses(dice, 20, 300, 20, (3,)) + planted_clauses(dice, 20, 6, 20, (1,)))
                  for _ in range(6)]
-        for seed in range(3):
-            self.assertEqual(self.check(20, planted_clauses(random.Random(seed), 20, 300, 20, (3,), 5)), "values")
+        for n, count, length in ((20, 300, 3), (40, 300, 2), (50, 500, 3), (60, 500, 2), (40, 600, 3), (30, 800, 4)):
+            clauses = planted_clauses(random.Random(n), n, count, 20, (length,), 5)
+            self.assertEqual(self.check(n, clauses), "values")
         self.assertEqual(set(words) - {"paper", "values"}, set())
         n, clauses = jobs((2, 1, 3, 1, 1, 2, 1), 10)
         self.assertEqual(self.check(n, clauses), "paper")
