@@ -104,9 +104,9 @@ class Told(Case):
     def test_many_steps(self):
         """Many choices, each a little better than the one before, and endless at the end of them."""
         term = X
-        for k in range(12):
+        for k in range(8):
             term = ("if", ("flag", "f" + "x" * k), ("plus", term, 3 ** k), term)
-        self.assertEqual(self.check_ends((), (), term, X), (0, (3 ** 12 - 1) // 2))
+        self.assertEqual(self.check_ends((), (), term, X), (0, (3 ** 8 - 1) // 2))
         other = ("if", ("flag", "g"), term, Y)
         self.assertEqual(self.check_ends((), (), other, X), (None, None))
 
