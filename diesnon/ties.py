@@ -19,10 +19,10 @@ class Ties:
         self.links[b].append((b, a, -c))
         gone, root = self.roots[a], self.roots[b]
         shift = self.offsets[b] + c - self.offsets[a]
-        for at, other in enumerate(list(self.roots)):
-            if other == gone:
-                self.roots[at] = root
-                self.offsets[at] += shift
+        moved = [at for at, other in enumerate(self.roots) if other == gone]
+        for at in moved:
+            self.roots[at] = root
+            self.offsets[at] += shift
 
     def way(self, a, b):
         """The list of the literals of the way from a to b, two points with one root."""
