@@ -125,11 +125,23 @@ def difference(rows, values, i, j):
 
 def span(rules, assumptions, t, u):
     """The least and the greatest difference of t and u, None for one that is endless."""
+    ends = span_worlds(rules, assumptions, t, u)
+    return tuple([None if end is None else end[0] for end in ends])
+
+
+def span_worlds(rules, assumptions, t, u):
+    """The least and the greatest difference of t and u, each with a world, None for one that is endless."""
     made, rows = term_picture(rules, assumptions, [t, u])
     i, j = point_of(made, t), point_of(made, u)
     values = some_values(len(made), rows)
-    low, high = difference(rows, values, j, i), difference(rows, values, i, j)
-    return None if low is None else -low, high
+    ends = []
+    for found in (climb(rows, values, j, i), climb(rows, values, i, j)):
+        if found is None:
+            ends.append(None)
+        else:
+            best, _ = found
+            ends.append((best[i] - best[j], world_of_values(rules, made, best)))
+    return ends
 
 
 def check_most(rules, assumptions, t, u, v, paper):

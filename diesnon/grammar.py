@@ -223,20 +223,32 @@ STEPS = {
 }
 
 
+def meet_all(reading, kind):
+    """Reads a term or condition, as kind tells, which becomes the last node that is made."""
+    reading.aim([(kind, None)])
+    while reading.goals:
+        goal, told = reading.goals.pop()
+        meet = STEPS[goal]
+        meet(reading, told)
+
+
+def nodes_read(reading):
+    """The nodes that are made of all parts of a text.
+
+    Raises BadForm if parts are left, then TooLarge.
+    """
+    if not reading.is_over():
+        raise BadForm(reading.line)
+    if any([is_too_large(size, depth) for _, size, depth in reading.made]):
+        raise TooLarge("a node is too large or too deep")
+    return [node for node, _, _ in reading.made]
+
+
 def read_node(text, kind, cases, line):
     """The term or condition, as kind tells, of a text in a line; with cases, also of cases.
 
     Raises BadForm(line) if the text is none, then TooLarge.
     """
     reading = Reading(tokens_of(text, line), line, cases)
-    reading.aim([(kind, None)])
-    while reading.goals:
-        goal, told = reading.goals.pop()
-        meet = STEPS[goal]
-        meet(reading, told)
-    if not reading.is_over():
-        raise BadForm(line)
-    node, size, depth = reading.made[0]
-    if is_too_large(size, depth):
-        raise TooLarge("the node is too large or too deep")
-    return node
+    meet_all(reading, kind)
+    return nodes_read(reading)[0]

@@ -34,15 +34,20 @@ def with_below(table, name):
 
 
 def known_stretches(rule):
-    """The closed stretches of the known days of a rule."""
-    known = rule[3]
-    return known[2] if known else ()
+    """The closed stretches of the known days of a rule.
+
+    In the place of its known days a rule may have two tuples here, if the days that are known
+    are not all in a row: the greatest runs of days that are open, and closed days.
+    """
+    return rule[3][-1] if rule[3] else ()
 
 
 def known_pieces(rule):
     """The greatest runs of known days that are known to be open."""
     if not rule[3]:
         return ()
+    if len(rule[3]) == 2:
+        return rule[3][0]
     first, last, closed = rule[3]
     pieces = ((first, last),)
     for begin, end in closed:

@@ -3,6 +3,17 @@
 import doctest
 import unittest
 
+DOCKET = """
+>>> from diesnon.docket import Docket
+>>> rule = ("answer", "served", ("yes",), ("next", "court", ("plus", ("day", "served"), 3)), "reply")
+>>> book = ((("court", 2, "", ()),), ("served", "reply"), (rule,))
+>>> docket = Docket(book, 0)
+>>> docket.publish("court", 6, ((5, 6),))
+>>> docket.advance(2)
+>>> docket.file("served", 2)
+>>> docket.rules(), docket.filings()
+((('court', 2, '', (0, 6, ((5, 6),))),), (('served', 2),))
+"""
 EXAMPLES = {
     "stretches": """
 >>> from diesnon.stretches import closed_days, count_open, inside, next_open, nth_open, prev_open
@@ -137,6 +148,75 @@ False
 (((2,), (0, 1)), ((0, 2), (1, 2)))
 >>> meeting_sets(((2,), (0, 1)))
 ((0, 2), (1, 2))
+""",
+    "reasons": """
+>>> from diesnon.reasons import all_reasons, looks, reason
+>>> world = ((("court", ((5, 6),)),), (("x", 5),), ())
+>>> term = ("next", "court", ("day", "x"))
+>>> looks(world, term)
+(('closed', 'court', 5), ('closed', 'court', 6), ('day', 'x', 5), ('open', 'court', 7))
+>>> reason((("court", 2, "", ()),), world, term)
+(('closed', 'court', 5), ('closed', 'court', 6), ('day', 'x', 5))
+>>> all_reasons((), world, ("later", term, ("at", 9)))
+((('day', 'x', 5), ('open', 'court', 7)),)
+""",
+    "books": """
+>>> from diesnon.books import outcomes
+>>> first = ("answer", "served", ("yes",), ("next", "court", ("plus", ("day", "served"), 3)), "reply")
+>>> second = ("default", "answer", ("yes",), ("plus", ("day", "answer"), 2), "")
+>>> book = ((("court", 0, "", ()),), ("served", "reply"), (first, second))
+>>> outcomes(book, ((("court", ((13, 14),)),), (("served", 10),)))
+(('answer', True, 15, False, True), ('default', True, 18, False, True))
+>>> outcomes(book, ((("court", ((13, 14),)),), (("reply", 15), ("served", 10))))
+(('answer', True, 15, True, False), ('default', False, None, False, False))
+""",
+    "allcases": """
+>>> from diesnon.allcases import always
+>>> rule = ("answer", "served", ("yes",), ("next", "court", ("plus", ("day", "served"), 3)), "reply")
+>>> book = ((("court", 2, "", ()),), ("served", "reply"), (rule,))
+>>> always(book, (), ("or", ("not", ("called", "answer")), ("le", ("due", "answer"), ("plus", ("day", "served"), 5))))[0]
+'paper'
+>>> always(book, (), ("or", ("not", ("called", "answer")), ("le", ("due", "answer"), ("plus", ("day", "served"), 4))))[0]
+'history'
+>>> always(book, (("filed", "served"),), ("called", "answer"))[0]
+'paper'
+""",
+    "compare": """
+>>> from diesnon.compare import alike
+>>> yes = ("yes",)
+>>> day = ("plus", ("day", "served"), 1)
+>>> calendars = (("court", 0, "", ()),)
+>>> book = (calendars, ("served",), (("answer", "served", yes, ("next", "court", day), ""),))
+>>> other = (calendars, ("served",), (("answer", "served", yes, ("nth", "court", ("day", "served"), 1), ""),))
+>>> alike(book, other)[0]
+'alike'
+""",
+    "docket": DOCKET,
+    "futures": DOCKET + """
+>>> from diesnon.futures import due_span, fixed, status
+>>> fixed(docket, "answer"), status(docket, "answer")
+(7, ('certain', 'open'))
+>>> docket.correct("served", 1)
+>>> due_span(docket, "answer")[:3]
+('span', 4, 4)
+""",
+    "image": DOCKET + """
+>>> docket.correct("served", 1)
+>>> from diesnon.image import docket_text
+>>> docket_text(docket)
+'begin 0\\npublish court 6 closed 5..6\\nadvance 2\\nfile served 2\\ncorrect served 1\\n'
+""",
+    "booktexts": """
+>>> from diesnon.booktexts import book_text, read_book
+>>> book = read_book("calendar court run 2\\nevent served\\nrule answer on served when ?x due @3\\n")
+Traceback (most recent call last):
+    ...
+diesnon.errors.BadForm: line 3 is not of its form
+>>> book = read_book("event served\\nrule answer on served when yes due served+3")
+>>> book
+((), ('served',), (('answer', 'served', ('yes',), ('plus', ('day', 'served'), 3), ''),))
+>>> book_text(book)
+'event served\\nrule answer on served when yes due served + 3\\n'
 """,
 }
 

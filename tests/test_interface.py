@@ -71,6 +71,36 @@ FUNCTIONS = {
         "suffices": ["question", "chosen"], "least_sets": ["question"], "breaking_sets": ["question"],
         "meeting_sets": ["sets"],
     },
+    "reasons": {
+        "agrees": ["world", "fact"], "condition_of": ["fact"], "looks": ["world", "term"],
+        "explains": ["rules", "world", "term", "facts"], "reason": ["rules", "world", "term"],
+        "all_reasons": ["rules", "world", "term"], "parted": ["rules", "world", "term", "facts"],
+    },
+    "books": {
+        "check_case_term": ["book", "term"], "check_case_condition": ["book", "condition"], "check_book": ["book"],
+        "check_history": ["book", "history"], "outcomes": ["book", "history"],
+        "case_value": ["book", "history", "term"], "case_holds": ["book", "history", "condition"],
+    },
+    "allcases": {
+        "world_of": ["book", "history"], "history_of": ["book", "world"], "plain_condition": ["book", "condition"],
+        "presence": ["book", "term"], "plain_term": ["book", "term"],
+        "question_of": ["book", "assumptions", "claim"], "always": ["book", "assumptions", "claim"],
+    },
+    "compare": {
+        "alike": ["book", "other"], "likeness": ["book", "other", "name"], "never_called": ["book"],
+        "latest_behind": ["book", "assumptions", "name", "other"],
+    },
+    "futures": {
+        "open_book": ["docket"], "known_conditions": ["docket"], "is_future": ["docket", "history"],
+        "standing": ["docket", "condition"], "future_with": ["docket", "condition"],
+        "proof_of": ["docket", "condition"], "check_proof": ["docket", "condition", "paper"],
+        "due_span": ["docket", "name"], "status": ["docket", "name"], "fixed": ["docket", "name"],
+        "played": ["docket", "history", "last"],
+    },
+    "image": {"docket_text": ["docket"], "load": ["book", "text"], "resume": ["book", "text"]},
+    "booktexts": {"book_text": ["book"], "read_book": ["text"]},
+    "lines": {"read_command": ["line"]},
+    "desk": {"run_script": ["script"]},
 }
 CONSTANTS = {
     "terms": {
@@ -80,6 +110,9 @@ CONSTANTS = {
     "points": {"MAX_POINTS": 80},
     "papers": {"MAX_CLAUSES": 8000, "MAX_DEPTH": 8000},
     "cores": {"MAX_CHOICES": 6},
+    "reasons": {"MAX_FACTS": 40, "MAX_CHOSEN": 6},
+    "books": {"MAX_EVENTS": 6, "MAX_RULES": 6, "MAX_LEVEL": 4},
+    "docket": {"MAX_DAY": 1000000, "MAX_DEEDS": 200},
 }
 CLASSES = {
     "errors": {
@@ -91,6 +124,15 @@ CLASSES = {
             "__init__": ["self", "n"], "size": ["self"], "add": ["self", "a", "b", "c"], "literals": ["self"],
             "bound": ["self", "a", "b"], "any_values": ["self"], "values_at": ["self", "a", "b"],
             "values_beyond": ["self", "a", "b", "least"], "copy": ["self"],
+        },
+    },
+    "docket": {
+        "Docket": {
+            "__init__": ["self", "book", "begin"], "book": ["self"], "begin": ["self"], "today": ["self"],
+            "filings": ["self"], "rules": ["self"], "deeds": ["self"], "file": ["self", "event", "day"],
+            "correct": ["self", "event", "day"], "withdraw": ["self", "event"],
+            "publish": ["self", "calendar", "last", "closed"], "advance": ["self", "day"], "undo": ["self"],
+            "copy": ["self"],
         },
     },
 }
