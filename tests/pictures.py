@@ -85,10 +85,10 @@ def some_world_for(dice, rules, nodes):
             closed[name] = free(closed[name], known[0], known[1])
             for first, last in known[2]:
                 closed[name] = shut(closed[name], first, last)
-    for name in calendars:
+    for name in sorted(calendars):
         closed.setdefault(name, some_closed(dice, -14, 30, 0.3))
-    return make_world(closed, {name: dice.randint(-9, 22) for name in days},
-                      {name: dice.random() < 0.5 for name in flags})
+    return make_world(closed, {name: dice.randint(-9, 22) for name in sorted(days)},
+                      {name: dice.random() < 0.5 for name in sorted(flags)})
 
 
 def nodes_of(question):
