@@ -1,22 +1,14 @@
-"""Reads the lines of events and of rules of books."""
+"""Reads the lines of events and of rules of books, which begin with their word."""
 
 from diesnon.errors import BadForm
 from diesnon.grammar import Reading, meet_all, nodes_read
 from diesnon.tokens import tokens_of
 
 
-def begun_reading(text, word, line):
-    """The parts of a line that begins with the word, which is taken."""
-    reading = Reading(tokens_of(text, line), line, True)
-    if not text.startswith(word):
-        raise BadForm(line)
-    reading.take_part(word)
-    return reading
-
-
 def read_event(text, line):
     """The event of a line; raises BadForm(line) if the line is none."""
-    reading = begun_reading(text, "event", line)
+    reading = Reading(tokens_of(text, line), line, True)
+    reading.take_part("event")
     event = reading.take_name()
     if not reading.is_over():
         raise BadForm(line)
@@ -25,7 +17,8 @@ def read_event(text, line):
 
 def read_case_rule(text, line):
     """The rule of a line; raises BadForm(line) if the line is none, then TooLarge."""
-    reading = begun_reading(text, "rule", line)
+    reading = Reading(tokens_of(text, line), line, True)
+    reading.take_part("rule")
     if "?" in reading.parts:
         raise BadForm(line)
     name = reading.take_name()

@@ -47,7 +47,6 @@ def likeness(book, other, name):
 
 def alike(book, other):
     """Papers that the books are alike, or a rule and a history in which it comes out differently."""
-    check_comparable(book, other)
     questions = [(name, likeness(book, other, name)) for name in names_of_rules(book)]
     for _, question in questions:
         # Whether one of the questions is too large does not depend on what the others tell.

@@ -103,8 +103,8 @@ def rules_with(rules, facts, named):
         if word in ("open", "closed"):
             table.setdefault(name, (name, 0, "", ()))
     made = []
-    for name, run, within, known in table.values():
-        rule = table[name]
+    for rule in table.values():
+        name, run, within, _ = rule
         pieces = closed_days([*known_pieces(rule), *days_told(facts, "open", name)])
         shut_days = closed_days([*known_stretches(rule), *days_told(facts, "closed", name)])
         made.append((name, run, within, (pieces, shut_days)))
@@ -117,9 +117,11 @@ def fact_clauses(made, facts):
     rows = []
     for word, name, told in facts:
         at = places.get((word, name))
-        if at is not None and word == "day":
+        if at is None:
+            continue
+        if word == "day":
             rows.extend([((at, 0, told),), ((0, at, -told),)])
-        elif at is not None and word == "flag":
+        else:
             rows.append(((0, at, -1),) if told else ((at, 0, 0),))
     return rows
 
@@ -139,10 +141,8 @@ def other_world(rules, term, worth, facts, named):
     told_rules = rules_with(rules, facts, named)
     made, rows = picture(told_rules, [], [term], MAX_CLAUSES)
     at = point_of(made, term)
-    rows = rows + fact_clauses(made, facts) + [((0, at, -worth - 1), (at, 0, worth - 1))]
-    if len(rows) > MAX_CLAUSES:
-        raise TooLarge("the picture has too many clauses")
-    word, told = solved(len(made), rows)
+    differs = ((0, at, -worth - 1), (at, 0, worth - 1))
+    word, told = solved(len(made), [*rows, *fact_clauses(made, facts), differs])
     if word == "paper":
         return None
     calendars, days, flags = world_of_values(told_rules, made, told)

@@ -209,6 +209,7 @@ class CheckCases(unittest.TestCase):
             ((("court", ((5, 6), (7, 8))),), ()), (OPEN, (("x", 3),)), (OPEN, (("answer", 3),)), (OPEN, (("court", 3),)),
             (OPEN, (("served", 3), ("reply", 3))), (OPEN, (("served", 3), ("served", 3))),
             (OPEN, (("reply", 3), ("reply", 4))),
+            (OPEN, (("reply", True),)),
         ):
             with self.assertRaises(NotAllowed):
                 check_history(BOOK, history)

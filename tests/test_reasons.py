@@ -12,7 +12,9 @@ from diesnon.reasons import (
 )
 from diesnon.terms import check_condition
 from diesnon.worlds import is_world, keeps_rules, set_day
-from tests.pictures import CALENDARS, chain_of_days, small_condition, small_rules, small_term, some_world_for
+from tests.pictures import (
+    CALENDARS, chain_of_days, many_clauses, many_terms, small_condition, small_rules, small_term, some_world_for,
+)
 
 X, Y, Z = (("day", name) for name in "xyz")
 WORLD = ((("bank", ((0, 0), (2, 3))), ("court", ((5, 6), (9, 9)))), (("x", 5), ("y", 2), ("z", -4)),
@@ -163,6 +165,10 @@ class Looks(unittest.TestCase):
                 for call in (looks, lambda world, term: reason((), world, term)):
                     with self.assertRaises(TooLarge):
                         call(world, term)
+        # Where the value is small there may still be far too many days.
+        world = ((("c", ((1, 10 ** 40),)),), (("x", 1),), ())
+        with self.assertRaises(TooLarge):
+            looks(world, ("if", ("le", ("next", "c", X), X), X, ("at", 0)))
         # Facts that one looks at twice count once.
         world = ((("c", ((1, 38),)),), (("x", 1),), ())
         self.assertEqual(len(looks(world, ("later", ("next", "c", X), ("next", "c", ("plus", X, 3))))), 40)
@@ -325,7 +331,12 @@ class Reasons(unittest.TestCase):
                      lambda: reason((), WORLD, term), lambda: all_reasons((), WORLD, term)):
             with self.assertRaises(TooLarge):
                 call()
-        self.assertEqual(looks(WORLD, term), (("day", "x", 5),))
+        rules, (term, _) = many_clauses(200), many_terms()
+        closed = rules[0][3][2]
+        world = ((("c", closed),), (("x", 0),), ())
+        with self.assertRaises(TooLarge):
+            explains(rules, world, term, ())
+        self.assertEqual(looks(WORLD, chain_of_days(81)), (("day", "x", 5),))
         self.assertEqual(reason((), WORLD, chain_of_days(80)), (("day", "x", 5),))
 
     def check(self, rules, world, term):
