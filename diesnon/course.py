@@ -1,6 +1,6 @@
 """The course of a history: which rules of a book are called, met and missed in it."""
 
-from diesnon.meaning import condition_told, term_told
+from diesnon.meaning import part_told
 from diesnon.terms import folded
 
 
@@ -57,8 +57,6 @@ class Course:
             return part[1] in self.days, True
         worths = [worth for worth, _ in told]
         whole = all([there for _, there in told])
-        if word in ("le", "is"):
-            return whole and condition_told(self.world, part, worths), whole
-        if word in ("yes", "not", "and", "or"):
-            return condition_told(self.world, part, worths), whole
-        return (term_told(self.world, part, worths) if whole else None), whole
+        if whole or word in ("not", "and", "or"):
+            return part_told(self.world, part, worths), whole
+        return (False if word in ("le", "is") else None), False

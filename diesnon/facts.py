@@ -3,7 +3,7 @@
 from diesnon.decide import picture
 from diesnon.errors import TooLarge
 from diesnon.layers import known_pieces, known_stretches
-from diesnon.meaning import condition_told, term_told
+from diesnon.meaning import part_told
 from diesnon.papers import MAX_CLAUSES
 from diesnon.points import point_of
 from diesnon.realize import world_of_values
@@ -52,10 +52,7 @@ def rows_of(part, told, looks):
 def look_at(world, node):
     """The look of a node in a world that has all its names."""
     def look_of(part, looks):
-        values = [look.told for look in looks]
-        conditions = ("le", "is", "flag", "yes", "not", "and", "or")
-        told_by = condition_told if part[0] in conditions else term_told
-        told = told_by(world, part, values)
+        told = part_told(world, part, [look.told for look in looks])
         return Look(told, rows_of(part, told, looks))
 
     return folded(node, look_of)

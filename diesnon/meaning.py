@@ -57,14 +57,16 @@ def condition_told(world, condition, told):
     return True
 
 
+def part_told(world, part, told):
+    """The value of a term, or whether a condition holds, whose parts mean what is told, in order."""
+    if part[0] in ("le", "is", "flag", "yes", "not", "and", "or"):
+        return condition_told(world, part, told)
+    return term_told(world, part, told)
+
+
 def meaning_of(world, node):
     """The value of a term, or whether a condition holds."""
-    def told_of(part, told):
-        if part[0] in ("le", "is", "flag", "yes", "not", "and", "or"):
-            return condition_told(world, part, told)
-        return term_told(world, part, told)
-
-    return folded(node, told_of)
+    return folded(node, lambda part, told: part_told(world, part, told))
 
 
 def value(world, term):

@@ -1,8 +1,7 @@
 """Books, histories and case nodes, made by a seeded random source, and a plain walk over [9.4] to [9.6]."""
 
-from diesnon.stretches import both, free, shut
-from tests.pictures import small_rules
-from tests.samples import days_of, some_closed
+from tests.pictures import small_rules, some_calendars
+from tests.samples import days_of
 
 CALENDARS = ("bank", "court", "mint")
 EVENTS = ("served", "reply", "appeal", "bond")
@@ -85,15 +84,7 @@ def some_book(dice, calendars=2, events=3, rules=2, known=0.2, depth=2):
 
 def some_history(dice, book):
     """A history whose calendars keep the calendar rules but perhaps for the runs."""
-    closed = {}
-    for name, run, within, known in book[0]:
-        closed[name] = some_closed(dice, -14, 40, dice.choice((0, 0.1, 0.3)))
-        if within:
-            closed[name] = both(closed[name], closed[within])
-        if known:
-            closed[name] = free(closed[name], known[0], known[1])
-            for first, last in known[2]:
-                closed[name] = shut(closed[name], first, last)
+    closed = some_calendars(dice, book[0], 40, (0, 0.1, 0.3))
     filed = [event for event in sorted(book[1]) if dice.random() < 0.7]
     return (tuple(sorted(closed.items())), tuple((event, dice.randint(-4, 20)) for event in filed))
 

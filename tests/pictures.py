@@ -73,18 +73,24 @@ def names_in(rules, nodes):
     return days, calendars, {name for _, _, names in told for name in names}
 
 
-def some_world_for(dice, rules, nodes):
-    """A world with just the names of the rules and nodes. It keeps within and known, perhaps not the runs."""
-    days, calendars, flags = names_in(rules, nodes)
+def some_calendars(dice, rules, last, chances):
+    """Calendars with closed days up to the last day. They keep within and known, perhaps not the runs."""
     closed = {}
     for name, _, within, known in rules:
-        closed[name] = some_closed(dice, -14, 30, dice.choice((0, 0.1, 0.3, 0.6)))
+        closed[name] = some_closed(dice, -14, last, dice.choice(chances))
         if within:
             closed[name] = both(closed[name], closed[within])
         if known:
             closed[name] = free(closed[name], known[0], known[1])
-            for first, last in known[2]:
-                closed[name] = shut(closed[name], first, last)
+            for first, end in known[2]:
+                closed[name] = shut(closed[name], first, end)
+    return closed
+
+
+def some_world_for(dice, rules, nodes):
+    """A world with just the names of the rules and nodes. It keeps within and known, perhaps not the runs."""
+    days, calendars, flags = names_in(rules, nodes)
+    closed = some_calendars(dice, rules, 30, (0, 0.1, 0.3, 0.6))
     for name in sorted(calendars):
         closed.setdefault(name, some_closed(dice, -14, 30, 0.3))
     return make_world(closed, {name: dice.randint(-9, 22) for name in sorted(days)},
