@@ -123,6 +123,26 @@ def fact_clauses(made, facts):
     return rows
 
 
+def fact_conditions(fact):
+    """The list of conditions that all hold in a world exactly if it agrees with the fact."""
+    word, name, told = fact
+    if word == "day":
+        return [("le", ("day", name), ("at", told)), ("le", ("at", told), ("day", name))]
+    if word == "flag":
+        return [("flag", name) if told else ("not", ("flag", name))]
+    condition = ("is", name, ("at", told))
+    return [condition if word == "open" else ("not", condition)]
+
+
+def check_picture(rules, term, worth, facts):
+    """Raises TooLarge if the question is too large whether the facts explain that the term has this value.
+
+    It is asked in another way, with fewer points, but what is too large does not depend on that.
+    """
+    conditions = [condition for fact in facts for condition in fact_conditions(fact)]
+    picture(rules, conditions, [term, ("at", worth)], MAX_CLAUSES)
+
+
 def completed(pairs, facts, word):
     """The pairs of a world, and those of facts with the word that name something else."""
     table = {name: told for other, name, told in facts if other == word}

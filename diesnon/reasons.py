@@ -2,8 +2,11 @@
 
 from diesnon.cores import all_sets, is_part, least_of
 from diesnon.errors import NotAllowed
-from diesnon.facts import check_facts, check_numbers, facts_of, look_at, other_world
+from diesnon.facts import (
+    check_facts, check_numbers, check_picture, fact_conditions, facts_of, look_at, other_world,
+)
 from diesnon.meaning import check_names, value
+from diesnon.plain import conjunction
 from diesnon.stretches import is_open
 from diesnon.worlds import calendar_of, day_of, flag_of, keeps_rules
 
@@ -24,14 +27,7 @@ def agrees(world, fact):
 def condition_of(fact):
     """A condition that holds in a world exactly if it agrees with the fact."""
     check_facts([fact])
-    word, name, told = fact
-    if word == "day":
-        day, number = ("day", name), ("at", told)
-        return "and", ("le", day, number), ("le", number, day)
-    if word == "flag":
-        return ("flag", name) if told else ("not", ("flag", name))
-    condition = ("is", name, ("at", told))
-    return condition if word == "open" else ("not", condition)
+    return conjunction(fact_conditions(fact))
 
 
 def looked_at(world, term, most):
@@ -56,6 +52,7 @@ def worth_in(rules, world, term, facts):
         raise NotAllowed("the world does not keep the rules, or does not agree with a fact")
     check_numbers([worth])
     check_facts(facts)
+    check_picture(rules, term, worth, facts)
     return worth
 
 
@@ -79,6 +76,7 @@ def reason(rules, world, term):
         fewer = without(kept, fact)
         if other_world(rules, term, worth, fewer, fewer) is None:
             kept = fewer
+    check_picture(rules, term, worth, kept)
     return kept
 
 
@@ -97,6 +95,7 @@ def all_reasons(rules, world, term):
         else:
             agreed = [k for k, fact in enumerate(facts) if agrees(other, fact)]
             enough.update({smaller: False for smaller in sets if is_part(smaller, agreed)})
+    check_picture(rules, term, worth, facts)
     found = least_of([chosen for chosen in sets if enough[chosen]])
     return tuple([tuple([facts[k] for k in chosen]) for chosen in found])
 

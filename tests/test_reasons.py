@@ -152,19 +152,28 @@ class Looks(unittest.TestCase):
 
     def test_forty_and_forty_one(self):
         self.assertEqual(MAX_FACTS, 40)
-        for shut, told in ((38, 40), (39, None), (400, None), (10 ** 40, None)):
-            world = ((("c", ((1, shut),)),), (("x", 1),), ())
-            term = ("next", "c", X)
-            if told:
-                self.assertEqual(len(looks(world, term)), told)
-                self.assertEqual(reason((), world, term), looks(world, term))
-                rules = (("c", shut, "", ()),)
-                self.assertEqual(reason(rules, world, term), looks(world, term)[:-1])
-                self.assertTrue(all(parted((), world, term, looks(world, term))))
+        term = ("later", ("next", "a", X), ("later", ("next", "b", X), ("next", "c", X)))
+        for shut, count in ((12, 40), (13, None)):
+            world = ((("a", ((1, 12),)), ("b", ((1, 12),)), ("c", ((1, shut),))), (("x", 1),), ())
+            if count:
+                self.assertEqual(len(looks(world, term)), count)
+                told = reason((), world, term)
+                self.assertEqual(len([fact for fact in told if fact[0] == "open"]), 3)
+                self.assertTrue(explains((), world, term, told) and all(parted((), world, term, told)))
+                self.assertIs(explains((), world, term, looks(world, term)), True)
+                rules = tuple((name, 0, "", (1, 13, ((1, 12),))) for name in "abc")
+                self.assertEqual(reason(rules, world, term), (("day", "x", 1),))
             else:
                 for call in (looks, lambda world, term: reason((), world, term)):
                     with self.assertRaises(TooLarge):
                         call(world, term)
+        for shut, count in ((38, 40), (39, None), (400, None), (10 ** 40, None)):
+            world = ((("c", ((1, shut),)),), (("x", 1),), ())
+            if count:
+                self.assertEqual(len(looks(world, ("next", "c", X))), count)
+            else:
+                with self.assertRaises(TooLarge):
+                    looks(world, ("next", "c", X))
         # Where the value is small there may still be far too many days.
         world = ((("c", ((1, 10 ** 40),)),), (("x", 1),), ())
         with self.assertRaises(TooLarge):
@@ -179,7 +188,6 @@ class Looks(unittest.TestCase):
                 term = ("later", term, ("day", f"d{k}"))
             if count == 40:
                 self.assertEqual(len(looks(((), days, ()), term)), 40)
-                self.assertEqual(reason((), ((), days, ()), term), looks(((), days, ()), term))
             else:
                 with self.assertRaises(TooLarge):
                     looks(((), days, ()), term)
@@ -331,13 +339,26 @@ class Reasons(unittest.TestCase):
                      lambda: reason((), WORLD, term), lambda: all_reasons((), WORLD, term)):
             with self.assertRaises(TooLarge):
                 call()
+        # The question whether so many days explain a value is too large, too.
+        for count, good in ((39, True), (40, False)):
+            world = ((("c", ((1, 40),)),), (), ())
+            facts = tuple(("closed", "c", day) for day in range(1, count + 1))
+            if good:
+                self.assertIs(explains((), world, ("at", 1), facts), True)
+                self.assertEqual(parted((), world, ("at", 1), facts), [None] * 39)
+            else:
+                for call in (explains, parted):
+                    with self.assertRaises(TooLarge):
+                        call((), world, ("at", 1), facts)
+        with self.assertRaises(TooLarge):
+            reason((), ((("c", ((1, 38),)),), (("x", 1),), ()), ("next", "c", X))
         rules, (term, _) = many_clauses(200), many_terms()
         closed = rules[0][3][2]
         world = ((("c", closed),), (("x", 0),), ())
         with self.assertRaises(TooLarge):
             explains(rules, world, term, ())
         self.assertEqual(looks(WORLD, chain_of_days(81)), (("day", "x", 5),))
-        self.assertEqual(reason((), WORLD, chain_of_days(80)), (("day", "x", 5),))
+        self.assertEqual(reason((), WORLD, chain_of_days(78)), (("day", "x", 5),))
 
     def check(self, rules, world, term):
         facts, told = looks(world, term), reason(rules, world, term)
