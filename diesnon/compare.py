@@ -1,7 +1,7 @@
 """Books compared, rules that are never called, and due days behind one another."""
 
 from diesnon.allcases import filled_history, question_of
-from diesnon.decide import decide, question_picture
+from diesnon.decide import decide, decide_picture, question_picture
 from diesnon.errors import Missing, NotAllowed
 from diesnon.extremes import greatest
 from diesnon.plain import Forms, conjunction
@@ -47,13 +47,11 @@ def likeness(book, other, name):
 
 def alike(book, other):
     """Papers that the books are alike, or a rule and a history in which it comes out differently."""
-    questions = [(name, likeness(book, other, name)) for name in names_of_rules(book)]
-    for _, question in questions:
-        # Whether one of the questions is too large does not depend on what the others tell.
-        question_picture(question)
+    # All pictures are drawn first: whether one is too large does not depend on what others tell.
+    pictures = [(name, question_picture(likeness(book, other, name))) for name in names_of_rules(book)]
     papers = []
-    for name, question in questions:
-        word, told = decide(question)
+    for name, (made, rows) in pictures:
+        word, told = decide_picture(book[0], made, rows)
         if word == "world":
             return "apart", name, filled_history(book, told)
         papers.append((name, told))

@@ -23,13 +23,18 @@ def question_picture(question):
     return picture(question[0], question_conditions(question), [], MAX_CLAUSES)
 
 
+def decide_picture(rules, made, rows):
+    """A world of values that satisfy the clauses of a picture, or a paper that there are none."""
+    word, told = solved(len(made), rows)
+    if word == "values":
+        return "world", world_of_values(rules, made, told)
+    return "paper", told
+
+
 def decide(question):
     """A world that answers the question, or a paper that shows that there is none."""
     made, rows = question_picture(question)
-    word, told = solved(len(made), rows)
-    if word == "values":
-        return "world", world_of_values(question[0], made, told)
-    return "paper", told
+    return decide_picture(question[0], made, rows)
 
 
 def check(question, paper):
