@@ -18,9 +18,9 @@ from diesnon.rulelines import read_rule
 from diesnon.terms import MAX_ASSUMPTIONS
 
 
-def listed(texts, sign):
-    """The texts with a sign between them, `-` if there are none."""
-    return sign.join(texts) if texts else "-"
+def listed(texts):
+    """The texts with spaces between them, `-` if there are none."""
+    return " ".join(texts) if texts else "-"
 
 
 def days_text(days):
@@ -76,7 +76,7 @@ def tell_span(desk, command):
 def tell_orders(desk, command):
     """Tells the orders of two terms."""
     t, u = read_term(command[1]), read_term(command[2])
-    return listed(orders(desk.calendars, desk.assumed, t, u), " ")
+    return listed(orders(desk.calendars, desk.assumed, t, u))
 
 
 def tell_run(desk, command):
@@ -94,7 +94,7 @@ def set_text(chosen):
 def tell_need(desk, command):
     """Tells the least sets of assumptions that a claim needs."""
     sets = least_sets(desk.question(read_condition(command[1])))
-    return listed([set_text(chosen) for chosen in sets], " ")
+    return listed([set_text(chosen) for chosen in sets])
 
 
 def add_event(desk, command):
@@ -134,7 +134,7 @@ def tell_behind(desk, command):
 
 def tell_unused(desk, _):
     """Tells the rules that are never called."""
-    return listed(never_called(desk.checked_book()), " ")
+    return listed(never_called(desk.checked_book()))
 
 
 def begin_docket(desk, command):
