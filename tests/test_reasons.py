@@ -352,6 +352,15 @@ class Reasons(unittest.TestCase):
                         call((), world, ("at", 1), facts)
         with self.assertRaises(TooLarge):
             reason((), ((("c", ((1, 38),)),), (("x", 1),), ()), ("next", "c", X))
+        for count, good in ((60, True), (72, False)):
+            world = ((("c", ((count, count + 3),)),), (("x", 2),), ())
+            term = ("next", "c", chain_of_days(count))
+            if good:
+                self.assertEqual(all_reasons((), world, term), (reason((), world, term),))
+            else:
+                for call in (reason, all_reasons):
+                    with self.assertRaises(TooLarge):
+                        call((), world, term)
         rules, (term, _) = many_clauses(200), many_terms()
         closed = rules[0][3][2]
         world = ((("c", closed),), (("x", 0),), ())
