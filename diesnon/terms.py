@@ -111,11 +111,12 @@ def folded(node, act):
     outer_first = []
     while rows:
         part = rows.pop()
-        outer_first.append(part)
-        rows.extend(parts_of(part))
+        parts = parts_of(part)
+        outer_first.append((part, len(parts)))
+        rows.extend(parts)
     told = []
-    for part in reversed(outer_first):
-        begin = len(told) - len(parts_of(part))
+    for part, count in reversed(outer_first):
+        begin = len(told) - count
         told[begin:] = [act(part, told[begin:])]
     return told[0]
 
